@@ -1,0 +1,188 @@
+"""The rules of the language subset that a look at the code can check."""
+
+import ast
+import builtins
+import re
+import unittest
+from pathlib import Path
+
+PACKAGE = Path(__file__).resolve().parent.parent / "whatran"
+
+# Of these modules these names may be imported (L2).
+LIBRARY = {
+    "heapq": {"heappush", "heappop", "heapify", "heapreplace", "heappushpop"},
+    "math": {"gcd", "lcm", "isqrt", "comb", "perm", "factorial"},
+    "itertools": {
+        "product", "combinations", "permutations",
+        "chain", "accumulate", "pairwise", "islice", "zip_longest",
+    },
+    "collections": {"defaultdict"},
+}
+ALLOWED_BUILTINS = set(
+    "len range enumerate zip min max sum abs sorted reversed int str bool bytes list tuple dict set"
+    " frozenset isinstance ord repr any all divmod pow getattr hasattr setattr iter next map super"
+    " property staticmethod classmethod object"
+    " Exception ValueError TypeError KeyError IndexError LookupError ZeroDivisionError"
+    " ArithmeticError OverflowError RuntimeError NotImplementedError AttributeError StopIteration"
+    " NotImplemented".split()
+)
+CATCHABLE = {"KeyError", "ZeroDivisionError", "StopIteration", "ValueError", "LookupError", "IndexError"}
+METHODS = set(
+    "append clear copy count endswith extend find get index insert isalnum isalpha isdigit islower"
+    " isspace isupper items join keys ljust lower lstrip partition pop remove replace reverse rfind"
+    " rjust rpartition rsplit rstrip setdefault split splitlines startswith strip update upper values"
+    " zfill bit_length title capitalize swapcase casefold center expandtabs removeprefix removesuffix"
+    " rindex isascii isdecimal isnumeric istitle isidentifier isprintable translate encode decode hex"
+    " from_bytes add discard format sort from_iterable maketrans".split()
+)
+BARRED_WORDS = set(
+    "type typing typing_extensions enum Enum IntEnum StrEnum Flag IntFlag Generic Protocol ABC ABCMeta"
+    " namedtuple NamedTuple TypedDict TYPE_CHECKING abstractmethod dataclass overload contextmanager"
+    " register mro elements open input law version_info with_traceback add_note attrgetter breakpoint"
+    " builtins compile copyright credits delattr dir eval exec exit gc globals help id importlib"
+    " license locals methodcaller os quit vars".split()
+)
+BARRED_NODES = (
+    ast.Global, ast.AsyncFunctionDef, ast.AsyncFor, ast.AsyncWith, ast.Await, ast.Div, ast.MatMult,
+    ast.Import,
+)
+
+
+def package_files():
+    return sorted(PACKAGE.rglob("*.py"))
+
+
+def trees():
+    for path in package_files():
+        yield path, ast.parse(path.read_text(encoding="ascii"), str(path))
+
+
+def nodes():
+    for path, tree in trees():
+        for node in ast.walk(tree):
+            yield f"{path.name}:{getattr(node, 'lineno', 0)}", node
+
+
+def own_words():
+    """The names of all functions, methods and attributes that the package makes."""
+    found = set()
+    for _, node in nodes():
+        if isinstance(node, (ast.FunctionDef, ast.ClassDef)):
+            found.add(node.name)
+        if isinstance(node, ast.Attribute) and isinstance(node.ctx, ast.Store):
+            found.add(node.attr)
+    return found
+
+
+def bound_names(node):
+    if isinstance(node, (ast.FunctionDef, ast.ClassDef)):
+        return [node.name]
+    if isinstance(node, ast.arg):
+        return [node.arg]
+    if isinstance(node, ast.Name) and isinstance(node.ctx, ast.Store):
+        return [node.id]
+    if isinstance(node, ast.alias):
+        return [node.name]
+    return []
+
+
+class FilesTest(unittest.TestCase):
+    def test_the_folder_holds_plain_files_alone(self):
+        for path in PACKAGE.rglob("*"):
+            if "__pycache__" not in path.parts and path.is_file():
+                self.assertRegex(path.name, r"\A[a-z0-9_]+\.py\Z")
+
+    def test_characters_and_sizes(self):
+        for path in package_files():
+            text = path.read_text(encoding="utf-8")
+            self.assertEqual(re.findall(r"[^ -~\n]", text), [], path)
+            lines = text.split("\n")
+            self.assertLess(len(lines), 400, path)
+            self.assertLessEqual(max(len(line) for line in lines), 120, path)
+
+    def test_functions_are_small(self):
+        for place, node in nodes():
+            if isinstance(node, ast.FunctionDef):
+                self.assertLessEqual(node.end_lineno - node.lineno + 1, 40, place)
+
+
+class StatementsTest(unittest.TestCase):
+    def test_module_level_holds_no_code_that_runs(self):
+        allowed = (ast.ImportFrom, ast.FunctionDef, ast.ClassDef, ast.Assign)
+        for path, tree in trees():
+            for at, node in enumerate(tree.body):
+                docstring = at == 0 and isinstance(node, ast.Expr) and isinstance(node.value, ast.Constant)
+                self.assertTrue(docstring or isinstance(node, allowed), f"{path.name}:{node.lineno}")
+                if isinstance(node, ast.Assign):
+                    calls = [one for one in ast.walk(node) if isinstance(one, ast.Call)]
+                    self.assertEqual(calls, [], f"{path.name}:{node.lineno}")
+
+    def test_imports(self):
+        for place, node in nodes():
+            if isinstance(node, ast.ImportFrom):
+                names = {alias.name for alias in node.names}
+                self.assertEqual(node.level, 0, place)
+                if node.module in LIBRARY:
+                    self.assertTrue(names <= LIBRARY[node.module], place)
+                    self.assertEqual([alias.asname for alias in node.names if alias.asname], [], place)
+                else:
+                    self.assertTrue(node.module.startswith("whatran."), place)
+                    self.assertNotIn("*", names, place)
+
+    def test_no_barred_statement_or_operator(self):
+        for place, node in nodes():
+            self.assertNotIsInstance(node, BARRED_NODES, place)
+
+    def test_no_float_and_no_percent_sign_in_texts(self):
+        for place, node in nodes():
+            if isinstance(node, ast.Constant):
+                self.assertNotIsInstance(node.value, (float, complex), place)
+                if isinstance(node.value, str):
+                    self.assertNotIn("%", node.value, place)
+
+    def test_only_these_errors_of_python_are_caught(self):
+        for place, node in nodes():
+            if isinstance(node, ast.ExceptHandler):
+                self.assertIsNotNone(node.type, place)
+                for one in ast.walk(node.type):
+                    if isinstance(one, ast.Name) and hasattr(builtins, one.id):
+                        self.assertIn(one.id, CATCHABLE, place)
+
+
+class NamesTest(unittest.TestCase):
+    def test_only_these_builtins_are_used(self):
+        for place, node in nodes():
+            if isinstance(node, ast.Name) and hasattr(builtins, node.id):
+                self.assertIn(node.id, ALLOWED_BUILTINS, place)
+
+    def test_no_name_has_another_meaning_in_python(self):
+        for place, node in nodes():
+            for name in bound_names(node):
+                if not name.startswith("__"):
+                    self.assertFalse(hasattr(builtins, name), f"{place} {name}")
+
+    def test_no_barred_word(self):
+        for place, node in nodes():
+            words = bound_names(node)
+            if isinstance(node, ast.Attribute):
+                words = [node.attr]
+            for word in words:
+                self.assertNotIn(word, BARRED_WORDS, place)
+
+    def test_only_these_methods_are_called(self):
+        known = METHODS | own_words()
+        for place, node in nodes():
+            if isinstance(node, ast.Call) and isinstance(node.func, ast.Attribute):
+                if node.func.attr != "__init__":
+                    self.assertIn(node.func.attr, known, place)
+
+    def test_names_are_bound_once_at_module_level(self):
+        for path, tree in trees():
+            names = [name for node in tree.body for one in [node, *getattr(node, "names", [])]
+                     for name in bound_names(one)]
+            names += [target.id for node in tree.body if isinstance(node, ast.Assign) for target in node.targets]
+            self.assertEqual(len(names), len(set(names)), path.name)
+
+
+if __name__ == "__main__":
+    unittest.main()

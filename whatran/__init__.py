@@ -1,0 +1,1 @@
+"""Whatran: what ran, by few marks, from many machines, led over every edition."""
