@@ -14,6 +14,22 @@ FUNCTIONS = {
         "read_condition(text)", "parts_of(condition)", "asked_parts(condition, values)",
         "is_held(condition, values)",
     ],
+    "throughs": [
+        "all_throughs(condition)", "part_worths(condition)", "number_of(condition, through)",
+        "through_at(condition, number)",
+    ],
+    "runs": ["run_program(program, inputs, *, fuel=500)"],
+    "sums": ["sum_fault(program, counts, ends)"],
+}
+# The classes with what makes them, where callers make them, and with their methods.
+CLASSES = {
+    ("programs", "Program"): [
+        "__init__(text)", "text()", "rows()", "routines()", "points()", "is_point(thing)", "word(row)", "routine(row)",
+        "condition(row)", "called(row)", "begin(name)", "close(name)", "ways()", "leads(way)",
+    ],
+    ("runs", "Seen"): [
+        "outcome()", "told()", "met()", "taken()", "through()", "ends()", "asked()", "points()", "last_values()",
+    ],
 }
 
 
@@ -28,6 +44,17 @@ class InterfaceTest(unittest.TestCase):
                     self.assertTrue(inspect.isfunction(function))
                     self.assertEqual(word + str(inspect.signature(function)), line)
                     self.assertEqual(function.__module__, f"whatran.{name}")
+
+    def test_each_class_stands_in_its_file_with_its_own_methods(self):
+        for (name, word), listed in CLASSES.items():
+            made = getattr(importlib.import_module(f"whatran.{name}"), word)
+            self.assertEqual(made.__module__, f"whatran.{name}")
+            for line in listed:
+                with self.subTest(made=word, method=line):
+                    method = vars(made)[line.partition("(")[0]]
+                    self.assertTrue(inspect.isfunction(method))
+                    told = str(inspect.signature(method)).replace("(self, ", "(").replace("(self)", "()")
+                    self.assertEqual(method.__name__ + told, line)
 
 
 if __name__ == "__main__":

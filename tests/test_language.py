@@ -86,6 +86,19 @@ def bound_names(node):
     return []
 
 
+def imports_of(tree):
+    return [node for node in tree.body if isinstance(node, ast.ImportFrom)]
+
+
+def targets(node):
+    """The names of parameters and of what is assigned below a function."""
+    for one in ast.walk(node):
+        if isinstance(one, ast.arg):
+            yield one.arg
+        if isinstance(one, ast.Name) and isinstance(one.ctx, ast.Store):
+            yield one.id
+
+
 class FilesTest(unittest.TestCase):
     def test_the_folder_holds_plain_files_alone(self):
         for path in PACKAGE.rglob("*"):
@@ -129,6 +142,30 @@ class StatementsTest(unittest.TestCase):
                     self.assertTrue(node.module.startswith("whatran."), place)
                     self.assertNotIn("*", names, place)
 
+    def test_no_two_files_import_from_each_other(self):
+        left = {
+            f"whatran.{path.stem}": {node.module for node in imports_of(tree) if node.module not in LIBRARY}
+            for path, tree in trees()
+        }
+        while left:
+            free = [name for name in left if not left[name] & set(left)]
+            self.assertNotEqual(free, [], sorted(left))
+            for name in free:
+                del left[name]
+
+    def test_imported_names_are_those_of_the_file_that_defines_them(self):
+        defined = {}
+        for path, tree in trees():
+            words = [name for node in tree.body if not isinstance(node, ast.ImportFrom) for name in bound_names(node)]
+            words += [name for node in tree.body if isinstance(node, ast.Assign) for name in targets(node)]
+            defined[f"whatran.{path.stem}"] = words
+        for path, tree in trees():
+            for node in imports_of(tree):
+                if node.module not in LIBRARY:
+                    for alias in node.names:
+                        self.assertIn(alias.name, defined[node.module], path.name)
+                        self.assertIsNone(alias.asname, path.name)
+
     def test_no_barred_statement_or_operator(self):
         for place, node in nodes():
             self.assertNotIsInstance(node, BARRED_NODES, place)
@@ -139,6 +176,34 @@ class StatementsTest(unittest.TestCase):
                 self.assertNotIsInstance(node.value, (float, complex), place)
                 if isinstance(node.value, str):
                     self.assertNotIn("%", node.value, place)
+
+    def test_no_generators_no_sets_and_no_sort_in_place(self):
+        # Stricter than the subset, which allows some of each; so there is nothing to mind.
+        for place, node in nodes():
+            self.assertNotIsInstance(node, (ast.GeneratorExp, ast.Yield, ast.YieldFrom, ast.Set, ast.SetComp), place)
+            self.assertNotIsInstance(node, (ast.Lambda, ast.NamedExpr, ast.Match, ast.With, ast.Nonlocal), place)
+            if isinstance(node, ast.Call) and isinstance(node.func, ast.Name):
+                self.assertNotIn(node.func.id, ("set", "frozenset", "iter", "next", "bytes", "map"), place)
+            if isinstance(node, ast.Call) and isinstance(node.func, ast.Attribute):
+                self.assertNotIn(node.func.attr, ("sort", "encode", "decode", "hex", "format"), place)
+
+    def test_views_zips_and_ranges_are_iterated_at_once(self):
+        for place, node in nodes():
+            if isinstance(node, (ast.Assign, ast.Return)) and isinstance(node.value, ast.Call):
+                called = node.value.func
+                word = called.attr if isinstance(called, ast.Attribute) else getattr(called, "id", "")
+                self.assertNotIn(word, ("items", "keys", "values", "zip", "enumerate", "reversed"), place)
+
+    def test_is_stands_beside_none_and_truths_alone(self):
+        for place, node in nodes():
+            if isinstance(node, ast.Compare) and any(isinstance(one, (ast.Is, ast.IsNot)) for one in node.ops):
+                self.assertIsInstance(node.comparators[0], ast.Constant, place)
+
+    def test_no_dict_is_copied_by_a_call(self):
+        for place, node in nodes():
+            if isinstance(node, ast.Call):
+                word = getattr(node.func, "id", getattr(node.func, "attr", ""))
+                self.assertNotIn(word, ("dict", "copy", "update"), place)
 
     def test_only_these_errors_of_python_are_caught(self):
         for place, node in nodes():
@@ -168,6 +233,36 @@ class NamesTest(unittest.TestCase):
                 words = [node.attr]
             for word in words:
                 self.assertNotIn(word, BARRED_WORDS, place)
+
+    def test_names_begin_with_a_letter_or_one_underscore(self):
+        barred = r"_(wall|pe_|dcw_|enum_|cm_|twin_re_|lay_|law_|stub_|sre|WallAttr)"
+        barred += r"|_(cold|tuplegetter|outside|record|written_out|member_names)[_0-9]*$"
+        for place, node in nodes():
+            words = bound_names(node) + ([node.attr] if isinstance(node, ast.Attribute) else [])
+            for word in words:
+                if not re.fullmatch(r"__[a-z]+__|_", word):
+                    self.assertRegex(word, r"\A_?[A-Za-z][A-Za-z0-9_]*\Z", place)
+                    self.assertIsNone(re.match(barred, word), f"{place} {word}")
+
+    def test_no_local_name_is_an_import_or_a_class_of_its_file(self):
+        for path, tree in trees():
+            barred = {alias.name for node in imports_of(tree) for alias in node.names}
+            barred |= {node.name for node in tree.body if isinstance(node, ast.ClassDef)}
+            for node in ast.walk(tree):
+                if isinstance(node, ast.FunctionDef):
+                    self.assertEqual(barred & set(targets(node)), set(), f"{path.name}:{node.lineno}")
+
+    def test_no_name_is_a_method_and_an_attribute(self):
+        # Stricter than the subset, which allows it in two classes under conditions.
+        methods = {
+            one.name for _, node in nodes() if isinstance(node, ast.ClassDef)
+            for one in node.body if isinstance(one, ast.FunctionDef)
+        }
+        stored = {
+            node.attr for _, node in nodes() if isinstance(node, ast.Attribute) and isinstance(node.ctx, ast.Store)
+        }
+        self.assertEqual(methods & stored, set())
+        self.assertEqual(stored & METHODS, set())
 
     def test_only_these_methods_are_called(self):
         known = METHODS | own_words()
