@@ -4,6 +4,8 @@ The tests compare the package with it. It takes texts of programs that are right
 """
 
 import itertools
+from fractions import Fraction
+from functools import lru_cache
 
 PLACES = "abc"
 
@@ -35,6 +37,7 @@ def ask(condition, answers, asked):
     return ask(condition[2], answers, asked)
 
 
+@lru_cache(maxsize=None)
 def throughs_of(condition):
     """A dict with each through and whether the condition holds then, of all answers of the parts."""
     found = {}
@@ -45,6 +48,7 @@ def throughs_of(condition):
     return found
 
 
+@lru_cache(maxsize=None)
 def worths_of(condition):
     throughs = throughs_of(condition)
     return [
@@ -115,6 +119,7 @@ def nest(rows, at, until=("end",)):
     return found, at
 
 
+@lru_cache(maxsize=None)
 def routines_of(text):
     """A dict of the routines by their names, each a statement with the word def."""
     found, _ = nest(text.split("\n"), 0)
@@ -128,6 +133,7 @@ def statements_in(body):
         yield from statements_in(one.other or [])
 
 
+@lru_cache(maxsize=None)
 def points_in(text):
     found = []
     for routine in routines_of(text).values():
@@ -138,6 +144,7 @@ def points_in(text):
     return sorted(found)
 
 
+@lru_cache(maxsize=None)
 def leads_in(text):
     """A dict with the point to which each way leads."""
     leads = {}
@@ -297,8 +304,8 @@ def meets_in(text, counts, ends):
     return meets
 
 
-def fault_in(text, counts, ends):
-    """The least point at which the sums are not kept, read off the document word by word."""
+def gaps_in(text, counts, ends):
+    """For each point by how much it is met more often than is due, read off the document."""
     meets = meets_in(text, counts, ends)
     routines = routines_of(text)
     begins = {(one.row, 0): one for one in routines.values()}
@@ -308,6 +315,7 @@ def fault_in(text, counts, ends):
         for one in statements_in(routine.body):
             if one.word == "call":
                 calls.setdefault(one.words[1], []).append((one.row, 0))
+    gaps = {}
     for point in points_in(text):
         stands = sum(end.count(point) for end in ends)
         if point in begins:
@@ -323,6 +331,46 @@ def fault_in(text, counts, ends):
                 due = sum(1 for end in ends if end == ())
         else:
             due = stands + sum(counts[way] for way in counts if way[:2] == point)
-        if meets[point] != due:
-            return point
-    return None
+        gaps[point] = meets[point] - due
+    return gaps
+
+
+def fault_in(text, counts, ends):
+    """The least point at which the sums are not kept."""
+    gaps = gaps_in(text, counts, ends)
+    return min((point for point in gaps if gaps[point]), default=None)
+
+
+# Marks.
+
+def columns_in(text):
+    """For each way by how much one more of it moves the gap of each point."""
+    ways = sorted(leads_in(text))
+    zeros = {way: 0 for way in ways}
+    return {way: list(gaps_in(text, {**zeros, way: 1}, []).values()) for way in ways}
+
+
+def rank_of(columns):
+    """How many of the columns, lists of whole numbers, do not hang on others."""
+    left = [[Fraction(number) for number in column] for column in columns]
+    rank = 0
+    while left:
+        column = left.pop()
+        at = next((at for at, number in enumerate(column) if number), None)
+        if at is not None:
+            rank += 1
+            left = [[one - other * (row[at] / column[at]) for one, other in zip(row, column)] for row in left]
+    return rank
+
+
+def is_enough(columns, marks):
+    """Whether no change is 0 at all of the marks."""
+    others = [columns[way] for way in columns if way not in marks]
+    return rank_of(others) == len(others)
+
+
+def is_change(text, marks, change):
+    """Whether it is a change that is 0 at all of the marks, for what has the keys of one."""
+    if not any(change.values()) or any(change[way] for way in marks):
+        return False
+    return fault_in(text, change, []) is None

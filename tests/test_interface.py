@@ -20,6 +20,18 @@ FUNCTIONS = {
     ],
     "runs": ["run_program(program, inputs, *, fuel=500)"],
     "sums": ["sum_fault(program, counts, ends)"],
+    "marking": [
+        "fewest_marks(program)", "best_marks(program, *, weights=None)", "hidden_change(program, marks)",
+        "is_hidden(program, marks, change)",
+    ],
+    "records": [
+        "record_by_marks(program, seen, marks)", "record_by_numbers(program, seen)", "counts_of(program, record)",
+    ],
+    "reports": ["join_reports(one, two)"],
+    "editions": [
+        "kept_rows(old, new)", "image_of(old, new, point)", "why_otherwise(old, new, *, met, taken, ends)",
+        "led_counts(old, new, counts, ends)",
+    ],
 }
 # The classes with what makes them, where callers make them, and with their methods.
 CLASSES = {
@@ -29,6 +41,12 @@ CLASSES = {
     ],
     ("runs", "Seen"): [
         "outcome()", "told()", "met()", "taken()", "through()", "ends()", "asked()", "points()", "last_values()",
+    ],
+    ("marking", "Reckoner"): ["__init__(program, marks)", "reckoned(numbers, ends)", "shares(way)"],
+    ("reports", "Report"): [
+        "__init__()", "add_edition(name, program)", "add(edition, run, record, *, watch=None)", "busy()", "editions()",
+        "runs(edition)", "program(edition)", "counts(edition, run)", "outcome(edition, run)", "ends(edition, run)",
+        "through(edition, run)", "met(edition, run)", "all_met(edition)", "all_taken(edition)", "who(edition, point)",
     ],
 }
 
