@@ -72,6 +72,12 @@ class AllTest(unittest.TestCase):
         seen = run(text, [2] * 200, 5000)
         self.assertEqual((seen.outcome(), seen.asked()), ("dry", 200))
 
+    def test_a_run_of_five_thousand_rows_with_two_hundred_inputs(self):
+        text = main_of("while not = a 3", "ask a", "end", "while = a a", "tell b", "set b b + 1", "end")
+        seen = run(text, [0, 1, 2] * 66 + [0, 3], 5000)
+        self.assertEqual((seen.outcome(), seen.asked(), len(seen.points())), ("spent", 200, 5000))
+        self.check(text, [0, 1, 2] * 66 + [0, 3], 5000)
+
     def test_a_run_of_five_thousand_points_that_calls_and_loops(self):
         text = "def p\nend\ndef q\ncall p\nend\ndef main\nwhile = a a\ncall q\nset b b + 1\nend\nend"
         seen = run(text, [], 5000)

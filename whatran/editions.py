@@ -73,9 +73,7 @@ def led_counts(old, new, counts, ends):
 
 def _most_kept(rows, others):
     """How many rows can be kept of those from each pair of rows on."""
-    most = {(row, len(others)): 0 for row in range(len(rows) + 1)}
-    for other in range(len(others) + 1):
-        most[(len(rows), other)] = 0
+    most = {(row, other): 0 for row in range(len(rows) + 1) for other in range(len(others) + 1)}
     for row in reversed(range(len(rows))):
         for other in reversed(range(len(others))):
             if rows[row] == others[other]:

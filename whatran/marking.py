@@ -64,7 +64,8 @@ class Reckoner:
         for way in numbers:
             known[way] = numbers[way]
         counts = {way: self._reckoned_way(way, known) for way in self._program.ways()}
-        # Of more marks than the fewest the numbers may not go with each other.
+        # So it is where counts would not be whole, and where, of more marks than the fewest,
+        # the numbers do not go with each other.
         if sum_fault(self._program, counts, ends) is not None:
             raise NoSums("no counts with these numbers keep the sums")
         return counts
@@ -82,10 +83,7 @@ class Reckoner:
         if way not in self._solved:
             return known[way]
         row = self._solved[way]
-        total = sum([row[thing] * known[thing] for thing in row if thing != way])
-        if total % row[way] != 0:
-            raise NoSums("the counts with these numbers are not whole")
-        return -total // row[way]
+        return -sum([row[thing] * known[thing] for thing in row if thing != way]) // row[way]
 
 
 def _need_marks(program, marks):

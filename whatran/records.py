@@ -10,7 +10,6 @@ from whatran.wholes import is_whole
 
 BY_MARKS = "marks"
 BY_NUMBERS = "numbers"
-OUTCOMES = ("ended", "dry", "stopped", "spent")
 
 
 def record_by_marks(program, seen, marks):
@@ -79,7 +78,7 @@ def _is_formed(program, thing):
 
 def _goes_with(program, outcome, ends):
     """Whether a run with these ends can have this outcome."""
-    if not isinstance(outcome, str) or outcome not in OUTCOMES:
+    if not isinstance(outcome, str):
         return False
     if ends == ():
         return outcome == "ended"

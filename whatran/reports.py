@@ -33,7 +33,7 @@ class Report:
         program = self.program(edition)
         if not is_name(run):
             raise NoName("a name is one to eight small letters or figures")
-        # What is watched may itself add something: behind that the report is busy still.
+        # A watch may itself tell of a run: behind that, this report is busy still.
         before = self._busy
         self._busy = True
         try:
