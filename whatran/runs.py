@@ -1,16 +1,16 @@
 """Runs: a program is run on inputs, and what it met, took and told is told."""
 
 from whatran.blocks import MAIN
-from whatran.conditions import NOT_ASKED, PLACES, asked_parts, word_worth
+from whatran.conditions import NOT_ASKED, asked_parts, word_worth
 from whatran.errors import NoInputs, NoNumber
 from whatran.flow import ANSWERS, ON
+from whatran.steps import FIRST_VALUES, ROUND, put, term_worth
 from whatran.throughs import number_of
 from whatran.wholes import is_whole
 
 FUEL = 500
 MOST_FUEL = 5000
-# Numbers are from 0 to 3 and go round.
-ROUND = 4
+OUTCOMES = ("ended", "dry", "stopped", "spent")
 
 
 def run_program(program, inputs, *, fuel=FUEL):
@@ -37,7 +37,7 @@ class Run:
         # The point of part 0 at which it stands, and the rows of the calls that wait.
         self.standing = program.begin(MAIN)
         self.calls = []
-        self.places = (0, 0, 0)
+        self.places = FIRST_VALUES
         self.said = []
         self.trail = []
         self.gone = {}
@@ -114,7 +114,7 @@ def _step(run):
 def _do(run, words):
     word = words[0]
     if word == "set":
-        _put(run, words[1], _term_worth(words[2:], run.places))
+        run.places = put(run.places, words[1], term_worth(words[2:], run.places))
     elif word == "tell":
         run.said.append(word_worth(words[1], run.places))
     elif word == "ask":
@@ -129,22 +129,8 @@ def _ask(run, place):
     if run.used == len(run.inputs):
         run.ending = "dry"
         return
-    _put(run, place, run.inputs[run.used])
+    run.places = put(run.places, place, run.inputs[run.used])
     run.used += 1
-
-
-def _put(run, place, number):
-    places = list(run.places)
-    places[PLACES.index(place)] = number
-    run.places = tuple(places)
-
-
-def _term_worth(words, places):
-    number = word_worth(words[0], places)
-    if len(words) == 1:
-        return number
-    other = word_worth(words[2], places)
-    return (number + other) % ROUND if words[1] == "+" else (number - other) % ROUND
 
 
 def _go_on(run, row):

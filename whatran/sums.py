@@ -40,12 +40,15 @@ def is_end(program, thing):
         return False
     if not all([program.is_point(point) and point[1] == 0 for point in thing]):
         return False
-    if thing == ():
-        return True
-    if program.routine(thing[0][0]) != MAIN or thing[-1] == program.close(MAIN):
+    return thing == () or (is_called_down(program, thing) and thing[-1] != program.close(MAIN))
+
+
+def is_called_down(program, points):
+    """Whether the first point is of main, and each but the last a call of the routine of the next one."""
+    homes = [program.routine(point[0]) for point in points]
+    if homes[0] != MAIN:
         return False
-    homes = [program.routine(point[0]) for point in thing]
-    return all([_is_call_of(program, point, home) for point, home in zip(thing[:-1], homes[1:])])
+    return all([_is_call_of(program, point, home) for point, home in zip(points[:-1], homes[1:])])
 
 
 def _is_call_of(program, point, name):
