@@ -6,16 +6,24 @@ from tests.some import LOOP
 from tests.test_conditions import PART
 from tests.things import NO_WHOLES
 from whatran import errors
+from whatran.choices import choice_words, seen_through
+from whatran.choosing import can_show, shown_by
 from whatran.conditions import asked_parts, condition_text, is_condition, read_condition
+from whatran.desk import Desk
 from whatran.editions import image_of, led_counts
+from whatran.fewruns import fewest_runs, paper_fault
+from whatran.leading import lead_over, to_run
 from whatran.marking import Reckoner, best_marks, hidden_change, is_hidden
 from whatran.programs import Program
 from whatran.ratios import fraction, is_fraction
+from whatran.reaching import all_stands, inputs_to, moat_fault, next_stands
 from whatran.records import counts_of, record_by_marks
 from whatran.reports import Report
 from whatran.runs import Seen, run_program
 from whatran.sums import sum_fault
+from whatran.texts import read_record, read_report
 from whatran.throughs import all_throughs, number_of, through_at
+from whatran.totals import rarest_points, run_rows, share_met, total_rows
 from whatran.wholes import is_whole
 
 PROGRAM = Program(LOOP)
@@ -33,7 +41,7 @@ def a_report():
 
 def things():
     """None of these is a number, a name, or anything that is made of these."""
-    objects = [PROGRAM, SEEN, a_report(), Reckoner(PROGRAM, MARKS), errors.Clash("r"), errors.NoProgram(3),
+    objects = [PROGRAM, SEEN, a_report(), Reckoner(PROGRAM, MARKS), Desk(), errors.Clash("r"), errors.NoProgram(3),
                Program, Seen, Report, errors.RanError, run_program, PROGRAM.ways, 0.5, -0.0, 1.0]
     plain = [thing for thing in NO_WHOLES if not isinstance(thing, (str, list, tuple))]
     for thing in objects + plain:
@@ -111,6 +119,48 @@ class AnythingTest(unittest.TestCase):
             self.refused("NoCounts", led_counts, PROGRAM, PROGRAM, thing, ())
             self.refused("NoEnds", led_counts, PROGRAM, PROGRAM, ZEROS, thing)
         self.assertEqual(report, a_report())
+
+    def test_leading_papers_and_totals(self):
+        report = a_report()
+        for thing in things():
+            for function in (lead_over, to_run):
+                self.refused("NoEdition", function, report, thing, "one")
+                self.refused("NoEdition", function, report, "one", thing)
+            for function in (fewest_runs, total_rows, share_met, run_rows, rarest_points):
+                self.refused("NoEdition", function, report, thing)
+            self.refused("NoEdition", paper_fault, report, thing, 0, None)
+            self.refused("NoNumber", paper_fault, report, "one", thing, None)
+            for many in (0, 1):
+                for paper in (thing, (thing, []), ((0, 0), thing), ((0, 0), [thing]), ((0, 0), [(thing, None)])):
+                    if many or paper is not None:
+                        self.assertEqual(paper_fault(report, "one", many, paper), ())
+            for function in (choice_words, seen_through):
+                self.refused("NoEdition", function, report, thing, 1)
+                self.refused("NoPoint", function, report, "one", thing)
+        self.assertEqual(report, a_report())
+
+    def test_stands_and_choosing(self):
+        stands = all_stands(PROGRAM)
+        for thing in things():
+            for stand in (thing, (thing, (0, 0, 0)), ((thing,), (0, 0, 0)), (((0, 0),), thing), (((0, 0),), (0, thing, 0))):
+                self.refused("NoStand", next_stands, PROGRAM, stand)
+                self.refused("NoStand", moat_fault, PROGRAM, stands + [stand])
+            self.refused("NoStand", moat_fault, PROGRAM, thing)
+            self.refused("NoPoint", inputs_to, PROGRAM, thing)
+            self.refused("NoCondition", shown_by, thing, 0, [])
+            self.refused("NoCondition", can_show, thing, 0)
+            self.refused("NoNumber", shown_by, PART, thing, [])
+            self.refused("NoNumber", can_show, PART, thing)
+            self.refused("NoThrough", shown_by, PART, 0, thing)
+            self.refused("NoThrough", shown_by, PART, 0, [(0,), thing])
+
+    def test_texts_and_the_desk(self):
+        desk = Desk()
+        for thing in things():
+            self.refused("NoText", read_record, thing)
+            self.refused("NoText", read_report, thing)
+            self.refused("NoRow", desk.say, thing)
+        self.assertEqual(desk.say("text"), "-")
 
 
 if __name__ == "__main__":

@@ -2,7 +2,7 @@ import importlib
 import inspect
 import unittest
 
-# What stands in the document's interface, of the files that there are by now.
+# What stands in the document's interface.
 FUNCTIONS = {
     "wholes": ["is_whole(thing, low, high)"],
     "ratios": [
@@ -32,6 +32,22 @@ FUNCTIONS = {
         "kept_rows(old, new)", "image_of(old, new, point)", "why_otherwise(old, new, *, met, taken, ends)",
         "led_counts(old, new, counts, ends)",
     ],
+    "leading": ["lead_over(report, old, new)", "to_run(report, old, new)"],
+    "fewruns": ["fewest_runs(report, edition)", "paper_fault(report, edition, many, paper)"],
+    "reaching": [
+        "next_stands(program, stand)", "all_stands(program)", "moat_fault(program, stands)",
+        "reachable_points(program)", "inputs_to(program, point)",
+    ],
+    "choosing": ["shown_by(condition, part, seen)", "can_show(condition, part)"],
+    "choices": ["choice_words(report, edition, row)", "seen_through(report, edition, row)"],
+    "totals": [
+        "total_rows(report, edition)", "share_met(report, edition)", "run_rows(report, edition)",
+        "rarest_points(report, edition)",
+    ],
+    "texts": [
+        "point_text(point)", "way_text(way)", "record_text(record)", "read_record(text)", "report_text(report)",
+        "read_report(text)",
+    ],
 }
 # The classes with what makes them, where callers make them, and with their methods.
 CLASSES = {
@@ -48,10 +64,14 @@ CLASSES = {
         "runs(edition)", "program(edition)", "counts(edition, run)", "outcome(edition, run)", "ends(edition, run)",
         "through(edition, run)", "met(edition, run)", "all_met(edition)", "all_taken(edition)", "who(edition, point)",
     ],
+    ("desk", "Desk"): ["__init__()", "say(row)"],
 }
 
 
 class InterfaceTest(unittest.TestCase):
+    def test_the_fuel_of_a_run_stands_in_its_file(self):
+        self.assertEqual(importlib.import_module("whatran.runs").FUEL, 500)
+
     def test_each_function_stands_in_its_file_with_its_arguments(self):
         for name, listed in FUNCTIONS.items():
             module = importlib.import_module(f"whatran.{name}")

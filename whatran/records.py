@@ -70,9 +70,9 @@ def _is_formed(program, thing):
     if not isinstance(sort, str) or not isinstance(numbers, list):
         return False
     if sort == BY_MARKS:
-        return all([_is_mark_entry(program, entry) for entry in numbers]) and _rises(numbers)
+        return all([_is_mark_entry(program, entry) for entry in numbers]) and rises(numbers)
     if sort == BY_NUMBERS:
-        return all([_is_number_entry(program, entry) for entry in numbers]) and _rises(numbers)
+        return all([_is_number_entry(program, entry) for entry in numbers]) and rises(numbers)
     return False
 
 
@@ -104,7 +104,7 @@ def _is_number_entry(program, thing):
     return is_whole(number, 0, len(throughs) - 1) and is_whole(many, 1, None)
 
 
-def _rises(numbers):
+def rises(numbers):
     """Whether the entries rise by all that stands ahead of how often, each once."""
     keys = [entry[:-1] for entry in numbers]
     return all([one < other for one, other in zip(keys[:-1], keys[1:])])
